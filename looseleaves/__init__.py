@@ -1,0 +1,1 @@
+"""Loose leaves of a book put in order by their catchwords."""
