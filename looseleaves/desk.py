@@ -6,9 +6,14 @@ BEGINS = 0
 LEAF = 1
 DROP = 2
 WAYS = 3
+ORDERS = 4
+FROM_WORD = 5
+RUNS = 6
+SURE = 7
+BEHIND = 8
 
-# How many whole numbers stand behind the number of each call: begins, leaf, drop, ways, orders.
-SIZES = (0, 4, 1, 1, 0)
+# How many whole numbers stand behind the number of each call, from begins (0) to least (9).
+SIZES = (0, 4, 1, 1, 0, 1, 0, 0, 2, 0)
 
 
 def answer(heap, call, given):
@@ -21,7 +26,17 @@ def answer(heap, call, given):
         return heap.drop(given[0])
     if call == WAYS:
         return heap.ways(given[0])
-    return heap.orders()
+    if call == ORDERS:
+        return heap.orders()
+    if call == FROM_WORD:
+        return heap.from_word(given[0])
+    if call == RUNS:
+        return heap.runs()
+    if call == SURE:
+        return heap.sure()
+    if call == BEHIND:
+        return heap.behind(given[0], given[1])
+    return heap.least()
 
 
 def answers(calls):

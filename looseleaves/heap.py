@@ -1,13 +1,17 @@
 """The heap of leaves, and what each call on it answers."""
 
-from looseleaves.rows import orders_of, ways_of
+from looseleaves.gaps import fewest_gaps
+from looseleaves.parts import least_runs
+from looseleaves.rows import orders_from, orders_of, orders_with, sure_pairs, ways_of
 
 MOST_LEAVES = 6
 HIGHEST_WORD = 9999
 
 BAD_WORD = -1
 NO_SUCH_LEAF = -2
+NOT_JUST_ONE_WAY = -4
 HEAP_IS_FULL = -5
+NO_ROW = -6
 
 
 def are_words(first, caught, second, caught2):
@@ -17,14 +21,19 @@ def are_words(first, caught, second, caught2):
     return max(first, caught, second, caught2) <= HIGHEST_WORD
 
 
+def leaves_and_ways(row):
+    """The leaves of a row of places, each with how it lies."""
+    told = []
+    for place in row:
+        told.extend([place[0], place[1]])
+    return told
+
+
 def count_and_first(orders):
     """How many orders there are, then the first one's leaves, each with how it lies."""
-    answered = [len(orders)]
-    if len(orders) > 0:
-        for place in orders[0]:
-            answered.append(place[0])
-            answered.append(place[1])
-    return answered
+    if len(orders) == 0:
+        return [0]
+    return [len(orders)] + leaves_and_ways(orders[0])
 
 
 class Heap:
@@ -62,3 +71,30 @@ class Heap:
 
     def orders(self):
         return count_and_first(orders_of(self.leaves))
+
+    def from_word(self, word):
+        return count_and_first(orders_from(word, orders_of(self.leaves)))
+
+    def runs(self):
+        fewest = fewest_gaps(self.leaves)
+        if fewest is None:
+            return [NO_ROW]
+        return [fewest[0]] + leaves_and_ways(fewest[1])
+
+    def sure(self):
+        pairs = sure_pairs(orders_of(self.leaves))
+        answered = [len(pairs)]
+        for pair in pairs:
+            answered.extend([pair[0], pair[1]])
+        return answered
+
+    def behind(self, first, second):
+        if max(first, second) >= len(self.leaves):
+            return [NO_SUCH_LEAF]
+        return [len(orders_with((first, second), orders_of(self.leaves)))]
+
+    def least(self):
+        for found in self.leaves:
+            if len(found) != 1:
+                return [NOT_JUST_ONE_WAY]
+        return least_runs([found[0] for found in self.leaves])

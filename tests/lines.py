@@ -25,6 +25,44 @@ def orders():
     return [4]
 
 
+def from_word(word):
+    return [5, word]
+
+
+def runs():
+    return [6]
+
+
+def sure():
+    return [7]
+
+
+def behind(first, second):
+    return [8, first, second]
+
+
+def least():
+    return [9]
+
+
+def simple(begin, lead):
+    """A leaf that may lie as it's told; turned, too, only if it leads to the word that it begins with."""
+    return leaf(begin, 9000, 9000, lead)
+
+
+def turned(begin, lead):
+    """A leaf that may lie turned; as it's told, too, only if it leads to the word that it begins with."""
+    return leaf(9000, lead, begin, 9000)
+
+
+def both(word, other):
+    """A leaf that may lie both ways: as it's told from word to word, turned from other to other."""
+    return leaf(word, other, other, word)
+
+
+NO_WAY = leaf(1, 2, 3, 4)
+
+
 def line(*calls):
     """The calls as the one list that is handed in."""
     return [number for call in calls for number in call]

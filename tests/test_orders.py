@@ -1,40 +1,9 @@
 """orders."""
 
-import itertools
-import random
 import unittest
 
-from tests.lines import begins, drop, each, last, leaf, orders
-
-
-def simple(begin, lead):
-    """A leaf that may lie as it's told; turned, too, only if it leads to the word that it begins with."""
-    return leaf(begin, 9000, 9000, lead)
-
-
-def turned(begin, lead):
-    """A leaf that may lie turned; as it's told, too, only if it leads to the word that it begins with."""
-    return leaf(9000, lead, begin, 9000)
-
-
-def lies(call, way):
-    """What the leaf of a call begins with and leads to, or None where it may not lie so."""
-    pages = [(call[1], call[2]), (call[3], call[4])]
-    upper, lower = pages if way == 0 else pages[::-1]
-    return (upper[0], lower[1]) if upper[1] == lower[0] else None
-
-
-def by_trying_all(leaves):
-    """The answer of orders, from every row there could be."""
-    found = []
-    for numbers in itertools.permutations(range(len(leaves))):
-        for lying in itertools.product((0, 1), repeat=len(leaves)):
-            words = [lies(leaves[number], way) for number, way in zip(numbers, lying)]
-            if None in words:
-                continue
-            if all(ahead[1] == behind[0] for ahead, behind in zip(words, words[1:])):
-                found.append(list(zip(numbers, lying)))
-    return [len(found)] + [number for place in min(found, default=[]) for number in place]
+from tests.lines import begins, drop, each, last, leaf, orders, simple, turned
+from tests.trying import heaps, rows_by_trying, told_of_orders
 
 
 class Orders(unittest.TestCase):
@@ -119,16 +88,9 @@ class Orders(unittest.TestCase):
         self.assertEqual(told[2:], [[1, 1, 0, 0, 0], [1, 1, 0, 0, 0], [2], [1, 1, 0, 0, 0, 2, 0]])
 
     def test_against_every_row_there_could_be(self):
-        source = random.Random(49)
         some = none = 0
-        for turn in range(400):
-            size = source.choice((1, 2, 2, 3, 3, 4, 4, 5))
-            leaves = []
-            for number in range(size):
-                first, second, lead = source.randint(1, 3), source.randint(1, 3), source.randint(0, 3)
-                call = leaf(first, second, second, lead) if source.randint(0, 1) else leaf(first, lead, second, first)
-                leaves.append(call)
-            expected = by_trying_all(leaves)
+        for leaves in heaps(49, 400):
+            expected = told_of_orders(rows_by_trying(leaves))
             some += expected[0] > 0
             none += expected[0] == 0
             with self.subTest(leaves=leaves):
